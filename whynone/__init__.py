@@ -1,0 +1,1 @@
+"""Reasons that are checked: the program is asked through whynone.desk.answers."""

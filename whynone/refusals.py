@@ -1,0 +1,5 @@
+"""The numbers that refuse a call."""
+
+NO_BRANCH = -2
+NOT_AS_TOLD = -22
+TOO_MANY_BOUNDS = -28
