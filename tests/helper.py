@@ -51,18 +51,61 @@ def some(p):
     return call(3, (p,))
 
 
+def lesson(kind, p, q, by=0):
+    return call(4, (kind, p, q, by))
+
+
+def add_up(times=(), low=(), high=(), by=1):
+    """The call sum; times is pairs, which and how many times."""
+    return call(5, (by,), [row(*low), row(*high), [number for pair in times for number in pair]])
+
+
+def holds(k):
+    return call(6, (k,))
+
+
+OPEN = call(7)
+
+
 def joined(calls):
     return [number for one in calls for number in one]
 
 
+def tell(*calls):
+    """What is answered to each call: a list of numbers each."""
+    told = answers(joined(calls))
+    found = []
+    while told:
+        found.append(told[1:1 + told[0]])
+        told = told[1 + told[0]:]
+    if len(found) != len(calls):
+        raise AssertionError(f"not one answer for each call: {found}")
+    return found
+
+
 def ask(*calls):
     """What is answered to each call: a number each."""
-    told = answers(joined(calls))
-    if len(told) != 2 * len(calls) or told[::2] != [1] * len(calls):
+    told = tell(*calls)
+    if any(len(numbers) != 1 for numbers in told):
         raise AssertionError(f"not one number for each call: {told}")
-    return told[1::2]
+    return [numbers[0] for numbers in told]
 
 
 def met(lists, *x):
     """The answer of meets for one row of numbers."""
     return ask(meets(lists, x))[0]
+
+
+def branches(lists, *lines):
+    """All branches behind the lines, as open and holds tell them."""
+    # One more some, without bounds, to take away the branches that were seen.
+    asked = [begin(lists + [[]]), *lines]
+    drop = some(len(lists) - 2)
+    count = tell(*asked, OPEN)[-1][0]
+    # A line puts one bound behind a branch at most.
+    looked = [holds(k) for k in range(len(lines) + 1)]
+    told = tell(*asked, *(looked + [drop]) * count, OPEN)[len(asked):]
+    if told[-1] != [0]:
+        raise AssertionError(f"not as many branches as open tells: {told}")
+    step = len(looked) + 1
+    return [[seen[1:] for seen in told[at:at + step - 1] if seen != [-2]] for at in range(0, count * step, step)]

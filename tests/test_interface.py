@@ -4,14 +4,22 @@ import contextlib
 import io
 import unittest
 
-from tests.helper import begin, bound, call, cases, joined, meets, plan, row, some
+from tests.helper import OPEN, add_up, begin, bound, call, cases, holds, joined, lesson, meets, plan, row, some, tell
 from whynone import desk
 from whynone.reading import read_calls
 
 LISTS = plan(2, facts=[(1, 0, 0, 0, 1), (4, 1, 0, 0, 1)], somes=[[], [bound([1], 0), bound([0, 1], 0)]])
-MANY = joined([meets(LISTS, (0, 0)), begin(LISTS), cases(bound([1], 0)), some(1), some(7), some(0), some(0), some(0),
-               some(0), meets(plan(0), ()), begin(plan(0)), begin(LISTS)])
-MANY_ANSWERED = [0, 0, 0, 0, -22, 0, 0, 1, -2, -22, -22, 0]
+LE = bound([1], 0)
+# All eight calls one behind another, with each refusal among them.
+MANY_ANSWERED = [
+    (meets(LISTS, (0, 0)), [0]), (begin(LISTS), [0]), (OPEN, [1]), (holds(0), [-2]), (cases(LE), [0]),
+    (holds(0), [0] + LE), (some(1), [0]), (lesson(1, 0, 0), [0]), (OPEN, [5]), (lesson(1, 0, 1), [-22]),
+    (holds(2), [0] + bound([], -1)), (add_up([(0, 1)], [0, 1], [0, 1], 1), [0]), (holds(3), [0] + bound([1], 20)),
+    (add_up(by=0), [-22]), (add_up([(2, 1)]), [0]), (OPEN, [4]), (some(7), [-22]), (some(0), [0]), (some(0), [0]),
+    (holds(1), [0] + bound([0, 1], 0)), (some(0), [0]), (some(0), [1]), (OPEN, [0]), (some(0), [-2]),
+    (lesson(1, 0, 0), [-2]), (add_up(), [-2]), (cases(LE), [-2]), (holds(0), [-2]), (meets(plan(0), ()), [-22]),
+    (begin(plan(0)), [-22]), (OPEN, [0]), (begin(LISTS), [0]), (OPEN, [1])]
+MANY = joined([asked for asked, answered in MANY_ANSWERED])
 
 
 class Answers(unittest.TestCase):
@@ -30,8 +38,31 @@ class Answers(unittest.TestCase):
         asked = [1, 0, 4, 25] + numbers + [0, 0, 26] + le + le + [2, 0, 1, 13] + le + [3, 1, 1, 0, 3, 1, 2, 0, 3, 1, 0, 0]
         self.assertEqual(desk.answers(asked), [1, 0, 1, 0, 1, 0, 1, -22, 1, 0])
 
+    def test_all_eight_written_out(self):
+        zeros = [0] * 10
+        x = [1, 1] + zeros
+        numbers = [2] + [0] * 12 + [3, 3] + zeros
+        facts = [1, 0, 0, 0, 1, 1, 0, 1, 0, 0]
+        first = [1, 1] + zeros + [2] + [1, -1] + zeros + [-2]
+        asked = [0, 0, 4, 12] + x + [25] + numbers + [10] + facts + [26] + first
+        asked += [1, 0, 3, 25] + numbers + [10] + facts + [26] + first
+        asked += [2, 0, 1, 13, 1, 0] + zeros + [1]
+        asked += [3, 1, 0, 0]
+        asked += [4, 4, 1, 0, 1, 0, 0]
+        # Three times bound 1, x1 is at least 0 three times and x0 at most 3 once: 4 x0 is at most 9.
+        asked += [5, 1, 2, 3, 12, 0, 3] + zeros + [12, 1, 0] + zeros + [2, 1, 3]
+        asked += [6, 1, 3, 0]
+        asked += [6, 1, 4, 0]
+        asked += [7, 0, 0]
+        told = [1, 1, 1, 0, 1, 0, 1, 0, 1, 0, 1, 0] + [14, 0, 2, 0] + zeros + [4] + [1, -2] + [1, 5]
+        self.assertEqual(desk.answers(asked), told)
+
     def test_several_calls(self):
-        self.assertEqual(desk.answers(MANY), joined([[1, answer] for answer in MANY_ANSWERED]))
+        self.assertEqual(desk.answers(MANY), joined([[len(answered)] + answered for asked, answered in MANY_ANSWERED]))
+
+    def test_each_call_is_answered_as_one_of_several(self):
+        self.assertEqual(tell(*[asked for asked, answered in MANY_ANSWERED]),
+                         [answered for asked, answered in MANY_ANSWERED])
 
     def test_kinds_of_what_is_given_back(self):
         told = desk.answers(MANY)
@@ -80,6 +111,11 @@ class Answers(unittest.TestCase):
     def test_700_calls(self):
         six = plan(1, [0], [1], somes=[[bound([1], 0)] * 6])
         self.assertEqual(desk.answers(joined([begin(six)] + [some(0)] * 699)), [1, 0] * 513 + [1, -28] * 187)
+
+    def test_700_calls_that_make_branches(self):
+        lists = plan(2, facts=[(2, 0, 0, 0, 1)])
+        told = tell(begin(lists), *[lesson(1, 0, 0)] * 600, *[add_up()] * 49, *[holds(511)] * 49, OPEN)
+        self.assertEqual(told, [[0]] * 513 + [[-28]] * (88 + 49) + [[0] + bound([], -1)] * 49 + [[1 + 4 * 512]])
 
     def test_a_number_that_is_no_call(self):
         with self.assertRaises(desk.NoSuchCall):

@@ -36,5 +36,10 @@ def bound_as_told(bound, unknowns):
     return LEAST_D <= bound.d <= MOST_D
 
 
+def never_holds(bound):
+    """Whether it can be read off the bound alone that no numbers keep it."""
+    return bound.d < 0 and all([factor == 0 for factor in bound.c])
+
+
 def bound_holds(bound, x):
     return sum([factor * number for factor, number in zip(bound.c, x)]) <= bound.d

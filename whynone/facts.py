@@ -54,6 +54,15 @@ def made_tables(facts):
     return made
 
 
+def way_up(made, table):
+    """The facts of kind 4 of the table, of the table that it's made of, and so on."""
+    way = []
+    while table in made:
+        way.append(made[table])
+        table = made[table].b
+    return way
+
+
 def each_made_once(facts):
     return len(made_tables(facts)) == len([fact for fact in facts if fact.kind == MADE])
 

@@ -1,5 +1,5 @@
 """The numbers that refuse a call."""
 
-NO_BRANCH = -2
+NOT_THERE = -2
 NOT_AS_TOLD = -22
 TOO_MANY_BOUNDS = -28
